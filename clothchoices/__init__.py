@@ -1,0 +1,1 @@
+"""Tops of patchwork: moved by turns and mirrors, and what keeps them."""

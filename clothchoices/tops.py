@@ -1,0 +1,248 @@
+"""The calls on tops: a top moved, and how each motion keeps it."""
+
+MOST_BYTES = 1024
+MOST_SQUARES = 6
+MOTIONS = 8
+
+ROW_END = 10
+BLANK = 32
+SLASH = 47
+BACKSLASH = 92
+
+OUT_OF_RANGE = -1
+TOO_LONG = -2
+AT_FAULT = -6
+
+KEPT_NOT = 0
+KEPT_PIECING = 1
+KEPT_LETTERS_CHANGED = 2
+KEPT_ALL = 3
+
+NO_PATCH = -1
+
+
+class Top:
+    """A top: its squares wide and high, and the letters of all quarters by their numbers."""
+
+    def __init__(self, wide, high, letters):
+        self.wide = wide
+        self.high = high
+        self.letters = letters
+
+
+def split_at(mark, numbers):
+    """The parts of numbers around every mark: always one part more than there are marks."""
+    parts = []
+    part = []
+    for number in numbers:
+        if number == mark:
+            parts.append(part)
+            part = []
+        else:
+            part.append(number)
+    parts.append(part)
+    return parts
+
+
+def is_letter(byte):
+    return 65 <= byte <= 90 or 97 <= byte <= 122
+
+
+def square_quarters(part):
+    """The four quarters that part writes: upper, right, lower, left; None if it is no square."""
+    if len(part) == 1:
+        quarters = [part[0], part[0], part[0], part[0]]
+    elif len(part) == 3 and part[1] == SLASH:
+        quarters = [part[0], part[2], part[2], part[0]]
+    elif len(part) == 3 and part[1] == BACKSLASH:
+        quarters = [part[0], part[0], part[2], part[2]]
+    elif len(part) == 4:
+        quarters = list(part)
+    else:
+        return None
+    if all([is_letter(byte) for byte in quarters]):
+        return quarters
+    return None
+
+
+def row_quarters(row):
+    """The quarters of a row's squares, one square behind the other; None if the row is at fault."""
+    letters = []
+    for part in split_at(BLANK, row):
+        quarters = square_quarters(part)
+        if quarters is None:
+            return None
+        letters.extend(quarters)
+    return letters
+
+
+def top_of(text):
+    """The top that a block's text tells; None if the text is at fault."""
+    rows = split_at(ROW_END, text)
+    # Every row has its end behind it, so nothing may be left behind the last one.
+    if len(rows.pop()) > 0:
+        return None
+    high = len(rows)
+    if high < 1 or high > MOST_SQUARES:
+        return None
+    wide = len(split_at(BLANK, rows[0]))
+    if wide > MOST_SQUARES:
+        return None
+    letters = []
+    for row in rows:
+        quarters = row_quarters(row)
+        if quarters is None or len(quarters) != 4 * wide:
+            return None
+        letters.extend(quarters)
+    return Top(wide, high, letters)
+
+
+def text_refusal(text):
+    """The refusal that a text meets in every call; 0 if it meets none."""
+    if len(text) > MOST_BYTES:
+        return TOO_LONG
+    if top_of(text) is None:
+        return AT_FAULT
+    return 0
+
+
+def printed_square(upper, right, lower, left):
+    if upper == right and right == lower and lower == left:
+        return [upper]
+    if upper == left and right == lower:
+        return [upper, SLASH, right]
+    if upper == right and lower == left:
+        return [upper, BACKSLASH, lower]
+    return [upper, right, lower, left]
+
+
+def printed(top):
+    """The bytes of the top's text, each square as short as may be."""
+    text = []
+    for square in range(top.wide * top.high):
+        first = 4 * square
+        letters = top.letters[first:first + 4]
+        text.extend(printed_square(letters[0], letters[1], letters[2], letters[3]))
+        if square % top.wide == top.wide - 1:
+            text.append(ROW_END)
+        else:
+            text.append(BLANK)
+    return text
+
+
+def mirrored(top):
+    """The top with left and right changed."""
+    old = top.letters
+    letters = []
+    for y in range(top.high):
+        for x in range(top.wide):
+            first = 4 * (y * top.wide + top.wide - 1 - x)
+            letters.extend([old[first], old[first + 3], old[first + 2], old[first + 1]])
+    return Top(top.wide, top.high, letters)
+
+
+def turned(top):
+    """The top turned clockwise by one quarter."""
+    old = top.letters
+    letters = []
+    # Square (x, y) of the turned top was square (y, high - 1 - x) of the old one.
+    for y in range(top.wide):
+        for x in range(top.high):
+            first = 4 * ((top.high - 1 - x) * top.wide + y)
+            letters.extend([old[first + 3], old[first], old[first + 1], old[first + 2]])
+    return Top(top.high, top.wide, letters)
+
+
+def top_moved(m, top):
+    """The top moved by motion m, 0 to 7."""
+    result = mirrored(top) if m >= 4 else top
+    for turn in range(m % 4):
+        result = turned(result)
+    return result
+
+
+def quarters_beside(top, quarter):
+    """The quarters that lie side by side with this one."""
+    square = quarter // 4
+    side = quarter % 4
+    x = square % top.wide
+    y = square // top.wide
+    beside = [4 * square + (side + 1) % 4, 4 * square + (side + 3) % 4]
+    if side == 0 and y > 0:
+        beside.append(4 * (square - top.wide) + 2)
+    if side == 1 and x < top.wide - 1:
+        beside.append(4 * (square + 1) + 3)
+    if side == 2 and y < top.high - 1:
+        beside.append(4 * (square + top.wide))
+    if side == 3 and x > 0:
+        beside.append(4 * (square - 1) + 1)
+    return beside
+
+
+def patch_from(top, start):
+    """All quarters of the patch that the quarter start is of."""
+    reached = {start: True}
+    waiting = [start]
+    while len(waiting) > 0:
+        quarter = waiting.pop()
+        for other in quarters_beside(top, quarter):
+            if other not in reached and top.letters[other] == top.letters[start]:
+                reached[other] = True
+                waiting.append(other)
+    return list(reached)
+
+
+def patches_of(top):
+    """For each quarter the number of its patch; patches are numbered as they come first."""
+    patches = [NO_PATCH for letter in top.letters]
+    found = 0
+    for start in range(len(top.letters)):
+        if patches[start] == NO_PATCH:
+            for quarter in patch_from(top, start):
+                patches[quarter] = found
+            found += 1
+    return patches
+
+
+def changed_each_for_one(letters, others):
+    """Whether each letter always became the same other one, and no two letters became one."""
+    became = {}
+    came_from = {}
+    for letter, other in zip(letters, others):
+        if became.setdefault(letter, other) != other:
+            return False
+        if came_from.setdefault(other, letter) != letter:
+            return False
+    return True
+
+
+def how_kept(top, after):
+    """How a motion keeps the top that it moves to after."""
+    if top.wide != after.wide or top.high != after.high:
+        return KEPT_NOT
+    if patches_of(top) != patches_of(after):
+        return KEPT_NOT
+    if top.letters == after.letters:
+        return KEPT_ALL
+    if changed_each_for_one(top.letters, after.letters):
+        return KEPT_LETTERS_CHANGED
+    return KEPT_PIECING
+
+
+def moved(m, text):
+    """0 and the printed bytes of the top moved by m; or a refusal."""
+    refusal = text_refusal(text)
+    if refusal < 0:
+        return [refusal]
+    if m >= MOTIONS:
+        return [OUT_OF_RANGE]
+    return [0] + printed(top_moved(m, top_of(text)))
+
+
+def keeps(text):
+    """0 and, for each motion 0 to 7, how it keeps the top; or a refusal."""
+    refusal = text_refusal(text)
+    if refusal < 0:
+        return [refusal]
+    top = top_of(text)
+    return [0] + [how_kept(top, top_moved(m, top)) for m in range(MOTIONS)]

@@ -1,0 +1,196 @@
+"""What the tests share: texts as lists of bytes, sample tops, and a second way to the answers.
+
+The second way treats a quarter as a triangle, a set of three corner points, and a motion as a
+motion of points: it knows nothing of how quarters are numbered.
+"""
+
+import itertools
+
+MOTIONS = range(8)
+
+EXPANDED = {"one": (0, 0, 0, 0), "slash": (0, 1, 1, 0), "backslash": (0, 0, 1, 1)}
+
+
+def data(text):
+    return list(text.encode("latin-1"))
+
+
+def told(answer):
+    """The text behind the 0 of an answer."""
+    if answer[0] != 0:
+        raise ValueError("refused: " + repr(answer))
+    return bytes(answer[1:]).decode("latin-1")
+
+
+def text_of(wide, high, letters):
+    """A block's text with every square written by four letters."""
+    rows = []
+    for y in range(high):
+        squares = ["".join(letters[4 * (y * wide + x):][:4]) for x in range(wide)]
+        rows.append(" ".join(squares) + "\n")
+    return "".join(rows)
+
+
+def sample_letters(count, alphabet, seed):
+    """Letters that look like chance and are the same every time."""
+    state = seed * 2654435761 % 4294967296 + 1
+    letters = []
+    for _ in range(count):
+        state = (state * 1664525 + 1013904223) % 4294967296
+        letters.append(alphabet[(state >> 16) % len(alphabet)])
+    return letters
+
+
+def sample_tops():
+    """(wide, high, letters): all small ones of few letters, and some of every size."""
+    for letters in itertools.product("abC", repeat=4):
+        yield 1, 1, list(letters)
+    for letters in itertools.product("ab", repeat=8):
+        yield 2, 1, list(letters)
+        yield 1, 2, list(letters)
+    for wide in range(1, 7):
+        for high in range(1, 7):
+            for seed, alphabet in enumerate(("a", "ab", "xYz", "abcdefgZ")):
+                yield wide, high, sample_letters(4 * wide * high, alphabet, seed + 10 * wide + high)
+
+
+def symmetric_tops():
+    """Tops that many motions keep, in all the ways there are."""
+    texts = ("a\n", "a b\n", "a\nb\n", "a b a c\n", "a b\nb a\n", "a b\nc a\n", "a/b\n", "a\\b\n",
+             "abab\n", "abac\n", "abcd\n", "a/b b\\a\na\\b b/a\n", "a b a\nb c b\na b a\n",
+             "a b a\nc d c\na b a\n", "a b\nc d\n", "a/b a\\b\n", "b a a\na b a\na a b\n",
+             "a b c\nd a e\nf g a\n", "a b c\nb a b\nc b a\n")
+    for text in texts:
+        rows = text.split("\n")[:-1]
+        letters = []
+        for row in rows:
+            for square in row.split(" "):
+                letters.extend(square_letters(square))
+        yield len(rows[0].split(" ")), len(rows), letters
+
+
+def square_letters(square):
+    if len(square) == 4:
+        return list(square)
+    two = (square[0], square[-1])
+    kind = "one" if len(square) == 1 else "slash" if square[1] == "/" else "backslash"
+    return [two[k] for k in EXPANDED[kind]]
+
+
+def triangle(x, y, side):
+    corners = [(2 * x, 2 * y), (2 * x + 2, 2 * y), (2 * x + 2, 2 * y + 2), (2 * x, 2 * y + 2)]
+    return frozenset((corners[side], corners[(side + 1) % 4], (2 * x + 1, 2 * y + 1)))
+
+
+def triangles(wide, high):
+    """All quarters in the order of their numbers."""
+    return [triangle(x, y, side) for y in range(high) for x in range(wide) for side in range(4)]
+
+
+def point_moved(m, wide, high, point):
+    x, y = point
+    if m >= 4:
+        x = 2 * wide - x
+    for _ in range(m % 4):
+        x, y = 2 * high - y, x
+        wide, high = high, wide
+    return x, y
+
+
+def expected_moved(m, wide, high, letters):
+    """(wide, high, letters) of the moved top."""
+    goes = {}
+    for quarter, letter in zip(triangles(wide, high), letters):
+        goes[frozenset(point_moved(m, wide, high, point) for point in quarter)] = letter
+    if m % 2 == 1:
+        wide, high = high, wide
+    return wide, high, [goes[quarter] for quarter in triangles(wide, high)]
+
+
+def expected_print(wide, high, letters):
+    rows = []
+    for y in range(high):
+        squares = []
+        for x in range(wide):
+            four = "".join(letters[4 * (y * wide + x):][:4])
+            tries = [four[0]] + [a + cut + b for cut in "/\\" for a in four for b in four] + [four]
+            squares.append(next(square for square in tries if square_letters(square) == list(four)))
+        rows.append(" ".join(squares) + "\n")
+    return "".join(rows)
+
+
+def expected_patches(wide, high, letters):
+    """The patches as a set of sets of triangles."""
+    cloth = dict(zip(triangles(wide, high), letters))
+    patches = []
+    for quarter in cloth:
+        near = [patch for patch in patches
+                if any(cloth[other] == cloth[quarter] and len(other & quarter) == 2 for other in patch)]
+        patches = [patch for patch in patches if patch not in near]
+        patches.append(frozenset([quarter]).union(*near))
+    return set(patches)
+
+
+def expected_keeps(wide, high, letters):
+    hows = []
+    for m in MOTIONS:
+        new_wide, new_high, new_letters = expected_moved(m, wide, high, letters)
+        pairs = set(zip(letters, new_letters))
+        if (new_wide, new_high) != (wide, high):
+            hows.append(0)
+        elif expected_patches(wide, high, letters) != expected_patches(wide, high, new_letters):
+            hows.append(0)
+        elif letters == new_letters:
+            hows.append(3)
+        elif len(pairs) == len(set(letters)) == len(set(new_letters)):
+            hows.append(2)
+        else:
+            hows.append(1)
+    return hows
+
+
+def orbits(m, wide, high):
+    """For each quarter the least number that motion m, again and again, takes to its place."""
+    numbers = list(range(4 * wide * high))
+    comes_from = expected_moved(m, wide, high, numbers)[2]
+    least = list(numbers)
+    for quarter in numbers:
+        other = comes_from[quarter]
+        while other != quarter:
+            least[quarter] = min(least[quarter], other)
+            other = comes_from[other]
+    return least
+
+
+def recoloured(wide, high, letters, seed):
+    """The same piecing with other letters, patch by patch, so that no two patches grow together."""
+    patches = sorted(expected_patches(wide, high, letters), key=lambda patch: min(sorted(q) for q in patch))
+    wishes = sample_letters(len(patches), "abcd", seed)
+    cloth = {}
+    for patch, wish in zip(patches, wishes):
+        near = {cloth[other] for other in cloth for quarter in patch if len(other & quarter) == 2}
+        letter = next(letter for letter in wish + "abcdefghijklmnopqrstuvwxyz" if letter not in near)
+        cloth.update((quarter, letter) for quarter in patch)
+    return [cloth[quarter] for quarter in triangles(wide, high)]
+
+
+def pieced_tops():
+    """Tops with winding patches whose piecing some motion keeps, but mostly not their letters."""
+    sizes = ((1, 1), (2, 2), (3, 3), (4, 4), (5, 5), (6, 6), (4, 3), (3, 5))
+    for wide, high in sizes:
+        for m in MOTIONS:
+            if wide != high and m % 2 == 1:
+                continue
+            for seed in range(6):
+                least = orbits(m, wide, high)
+                if seed % 2 == 1:
+                    # Whole squares of one letter make the longer ways.
+                    least = [4 * min(number // 4 for number in least[q // 4 * 4:][:4]) for q in range(len(least))]
+                field = sample_letters(len(least), "ab", 100 * m + 10 * wide + seed)
+                yield wide, high, recoloured(wide, high, [field[number] for number in least], seed)
+
+
+def done_after(first, then):
+    """The one motion that does motion first and then motion then."""
+    turns = first % 4 if then < 4 else -(first % 4)
+    return 4 * ((first // 4 + then // 4) % 2) + (turns + then) % 4

@@ -1,0 +1,162 @@
+"""Which texts are at fault, and that both calls hold them to be so."""
+
+import unittest
+
+from clothchoices.tops import keeps, moved
+from helper import data
+
+
+def row(squares):
+    return " ".join(squares) + "\n"
+
+
+class Texts(unittest.TestCase):
+    def check_fault(self, text):
+        numbers = data(text) if isinstance(text, str) else text
+        with self.subTest(text=text):
+            self.assertEqual(moved(0, numbers), [-6])
+            self.assertEqual(keeps(numbers), [-6])
+
+    def check_block(self, text):
+        with self.subTest(text=text):
+            self.assertEqual(moved(0, data(text)), [0] + data(text))
+            self.assertEqual(len(keeps(data(text))), 9)
+
+    def test_sizes(self):
+        for wide in range(1, 7):
+            for high in range(1, 7):
+                self.check_block(row("abcdef"[:wide]) * high)
+        self.check_block(row(["abcd"] * 6) * 6)
+
+    def test_too_wide_or_high(self):
+        self.check_fault(row("abcdefg"))
+        self.check_fault(row("abcdefg") * 7)
+        self.check_fault(row("a") * 7)
+        self.check_fault(row("abcdef") * 7)
+        self.check_fault(row("abcdefg") * 2)
+        self.check_fault(row("abcdef") + row("abcdefg"))
+        self.check_fault(row(["a"] * 100))
+        self.check_fault(row("a") * 100)
+
+    def test_no_bytes(self):
+        self.check_fault([])
+
+    def test_rows_of_other_lengths(self):
+        self.check_fault("a b\nc\n")
+        self.check_fault("a\nb c\n")
+        self.check_fault("a b\nc d\ne\n")
+        self.check_fault("a b\nc d\ne f g\n")
+        # As many bytes or letters in a row are not as many squares.
+        self.check_fault("a b\nc/d\n")
+        self.check_fault("a b\ncdef\n")
+
+    def test_no_row_end(self):
+        self.check_fault("a")
+        self.check_fault("a b\nc d")
+        self.check_fault("a/b")
+        self.check_fault("abcd")
+
+    def test_blanks(self):
+        for text in ("a  b\n", "a \n", " a\n", " \n", " ", "a b \n", " a b\n", "a\n b\n", "a b\nc  d\n", "a /b\n"):
+            self.check_fault(text)
+
+    def test_empty_rows(self):
+        for text in ("\n", "\n\n", "\na\n", "a\n\n", "a\n\nb\n"):
+            self.check_fault(text)
+
+    def test_squares_of_no_form(self):
+        for square in ("a/", "a\\", "ab", "abc", "abcde", "a/bc", "ab/c", "abc/", "/abc", "a\\bc", "/", "\\", "/a",
+                       "\\a", "//", "a//", "//a", "///", "a/\\", "a|b", "a-b", "a/b/c", "a/b/", "a//b", "/a/b",
+                       "a/bcde", "abcdefgh"):
+            self.check_fault(square + "\n")
+            self.check_fault("a " + square + "\n")
+            self.check_fault("a\n" + square + "\n")
+
+    def test_bytes_that_are_no_letter(self):
+        letters = list(range(65, 91)) + list(range(97, 123))
+        for byte in range(256):
+            if byte not in letters:
+                self.check_fault([byte, 10])
+                self.check_fault([byte, 47, 97, 10])
+                self.check_fault([97, 47, byte, 10])
+                self.check_fault([byte, 92, 97, 10])
+                self.check_fault([97, 92, byte, 10])
+                for place in range(4):
+                    four = [97, 98, 99, 100, 10]
+                    four[place] = byte
+                    self.check_fault(four)
+
+    def test_letters_at_the_edges(self):
+        for text in ("A\n", "Z\n", "a\n", "z\n", "A/Z\n", "a\\z\n", "AZaz\n"):
+            self.check_block(text)
+
+    def test_behind_a_whole_block(self):
+        for more in ("b", " ", "\n", "\0", "/", "b ", "b/", "\xff", "\r\n"):
+            self.check_fault("a\n" + more)
+            self.check_fault(row("abcdef") * 6 + more)
+        self.check_fault("a\r\n")
+
+    def test_lengths(self):
+        for numbers in ([97] * 1024, data("a\n") * 512, data("a ") * 512, [10] * 1024, [255] * 1024):
+            self.check_fault(numbers)
+            for more in (1, 2, 76):
+                longer = numbers + [10] * more
+                self.assertEqual(moved(0, longer), [-2])
+                self.assertEqual(keeps(longer), [-2])
+
+
+class HandedIn(list):
+    """A list that can't be changed, not for a while either."""
+
+    def refuse(self, *rest, **named):
+        raise AssertionError("what was handed in was changed")
+
+    __setitem__ = __delitem__ = __iadd__ = __imul__ = refuse
+    append = clear = extend = insert = pop = remove = reverse = sort = refuse
+
+
+class Calls(unittest.TestCase):
+    TEXTS = ("abba a/a\nc c\\d\n", "a b\nb a\n", "abcd\n", "", "a", "a\n" * 513)
+
+    def answers(self, text):
+        return [moved(m, text) for m in (0, 1, 5, 7, 8, 4294967295)] + [keeps(text)]
+
+    def test_handed_in_is_not_changed(self):
+        for text in self.TEXTS:
+            numbers = HandedIn(data(text))
+            self.answers(numbers)
+            self.assertEqual(list(numbers), data(text))
+
+    def test_nothing_is_kept(self):
+        first = [self.answers(data(text)) for text in self.TEXTS]
+        for answers, text in reversed(list(zip(first, self.TEXTS))):
+            self.assertEqual(self.answers(data(text)), answers)
+
+    def test_an_answer_is_a_list_of_its_own(self):
+        for text in self.TEXTS:
+            numbers = data(text)
+            before = self.answers(numbers)
+            for answer in self.answers(numbers):
+                answer.append(1)
+                answer[0] = 99
+            self.assertEqual(numbers, data(text))
+            self.assertEqual(self.answers(numbers), before)
+
+    def test_kinds(self):
+        for text in self.TEXTS:
+            for answer in self.answers(data(text)):
+                self.assertIs(type(answer), list)
+                for number in answer:
+                    self.assertIs(type(number), int)
+                if answer[0] < 0:
+                    self.assertEqual(len(answer), 1)
+                else:
+                    self.assertEqual(answer[0], 0)
+
+    def test_arguments_by_name(self):
+        self.assertEqual(moved(m=1, text=data("a b\n")), [0] + data("a\nb\n"))
+        self.assertEqual(keeps(text=data("a b\n")), [0, 3, 0, 2, 0, 2, 0, 3, 0])
+
+
+if __name__ == "__main__":
+    unittest.main()
