@@ -21,17 +21,16 @@ KEPT_ALL = 3
 NO_PATCH = -1
 
 
+# letters stand by the quarters' numbers, so tops of one size are compared list by list.
 class Top:
-    """A top: its squares wide and high, and the letters of all quarters by their numbers."""
-
     def __init__(self, wide, high, letters):
         self.wide = wide
         self.high = high
         self.letters = letters
 
 
+# Parts may be empty, one more than there are marks: so a mark too many is seen as an empty part.
 def split_at(mark, numbers):
-    """The parts of numbers around every mark: always one part more than there are marks."""
     parts = []
     part = []
     for number in numbers:
@@ -48,8 +47,8 @@ def is_letter(byte):
     return 65 <= byte <= 90 or 97 <= byte <= 122
 
 
+# Upper, right, lower, left; None if the part writes no square.
 def square_quarters(part):
-    """The four quarters that part writes: upper, right, lower, left; None if it is no square."""
     if len(part) == 1:
         quarters = [part[0], part[0], part[0], part[0]]
     elif len(part) == 3 and part[1] == SLASH:
@@ -65,8 +64,8 @@ def square_quarters(part):
     return None
 
 
+# None if the row is at fault.
 def row_quarters(row):
-    """The quarters of a row's squares, one square behind the other; None if the row is at fault."""
     letters = []
     for part in split_at(BLANK, row):
         quarters = square_quarters(part)
@@ -76,8 +75,8 @@ def row_quarters(row):
     return letters
 
 
+# None if the text is at fault.
 def top_of(text):
-    """The top that a block's text tells; None if the text is at fault."""
     rows = split_at(ROW_END, text)
     # Every row has its end behind it, so nothing may be left behind the last one.
     if len(rows.pop()) > 0:
@@ -97,8 +96,8 @@ def top_of(text):
     return Top(wide, high, letters)
 
 
+# All calls refuse a text alike, ahead of whatever else they refuse; 0 if it is taken.
 def text_refusal(text):
-    """The refusal that a text meets in every call; 0 if it meets none."""
     if len(text) > MOST_BYTES:
         return TOO_LONG
     if top_of(text) is None:
@@ -117,7 +116,6 @@ def printed_square(upper, right, lower, left):
 
 
 def printed(top):
-    """The bytes of the top's text, each square as short as may be."""
     text = []
     for square in range(top.wide * top.high):
         first = 4 * square
@@ -131,7 +129,6 @@ def printed(top):
 
 
 def mirrored(top):
-    """The top with left and right changed."""
     old = top.letters
     letters = []
     for y in range(top.high):
@@ -141,8 +138,8 @@ def mirrored(top):
     return Top(top.wide, top.high, letters)
 
 
+# Clockwise, by one quarter.
 def turned(top):
-    """The top turned clockwise by one quarter."""
     old = top.letters
     letters = []
     # Square (x, y) of the turned top was square (y, high - 1 - x) of the old one.
@@ -154,7 +151,6 @@ def turned(top):
 
 
 def top_moved(m, top):
-    """The top moved by motion m, 0 to 7."""
     result = mirrored(top) if m >= 4 else top
     for turn in range(m % 4):
         result = turned(result)
@@ -162,7 +158,6 @@ def top_moved(m, top):
 
 
 def quarters_beside(top, quarter):
-    """The quarters that lie side by side with this one."""
     square = quarter // 4
     side = quarter % 4
     x = square % top.wide
@@ -180,7 +175,6 @@ def quarters_beside(top, quarter):
 
 
 def patch_from(top, start):
-    """All quarters of the patch that the quarter start is of."""
     reached = {start: True}
     waiting = [start]
     while len(waiting) > 0:
@@ -192,8 +186,8 @@ def patch_from(top, start):
     return list(reached)
 
 
+# Numbered as they come first, so that tops of one piecing have the same list.
 def patches_of(top):
-    """For each quarter the number of its patch; patches are numbered as they come first."""
     patches = [NO_PATCH for letter in top.letters]
     found = 0
     for start in range(len(top.letters)):
@@ -204,8 +198,8 @@ def patches_of(top):
     return patches
 
 
+# Both ways are asked: a letter may not become two, nor two become one.
 def changed_each_for_one(letters, others):
-    """Whether each letter always became the same other one, and no two letters became one."""
     became = {}
     came_from = {}
     for letter, other in zip(letters, others):
@@ -216,8 +210,8 @@ def changed_each_for_one(letters, others):
     return True
 
 
+# after is the top once it is moved.
 def how_kept(top, after):
-    """How a motion keeps the top that it moves to after."""
     if top.wide != after.wide or top.high != after.high:
         return KEPT_NOT
     if patches_of(top) != patches_of(after):
@@ -230,7 +224,6 @@ def how_kept(top, after):
 
 
 def moved(m, text):
-    """0 and the printed bytes of the top moved by m; or a refusal."""
     refusal = text_refusal(text)
     if refusal < 0:
         return [refusal]
@@ -240,7 +233,6 @@ def moved(m, text):
 
 
 def keeps(text):
-    """0 and, for each motion 0 to 7, how it keeps the top; or a refusal."""
     refusal = text_refusal(text)
     if refusal < 0:
         return [refusal]
