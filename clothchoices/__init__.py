@@ -1,1 +1,1 @@
-"""Tops of patchwork: moved by turns and mirrors, and what keeps them."""
+"""Tops of patchwork: moved by turns and mirrors, what keeps them, and which are alike."""

@@ -1,4 +1,4 @@
-"""The calls on tops: a top moved, and how each motion keeps it."""
+"""The calls on tops: a top moved, how each motion keeps it, its least form, and whether two are alike."""
 
 MOST_BYTES = 1024
 MOST_SQUARES = 6
@@ -18,7 +18,12 @@ KEPT_PIECING = 1
 KEPT_LETTERS_CHANGED = 2
 KEPT_ALL = 3
 
+SEEN_AS_IT_IS = 0
+SEEN_NAMED_ANEW = 1
+
 NO_PATCH = -1
+
+NEW_NAMES = "abcdefghijklmnopqrstuvwxyzABCDEFGHIJKLMNOPQRSTUVWXYZ"
 
 
 # letters stand by the quarters' numbers, so tops of one size are compared list by list.
@@ -96,11 +101,12 @@ def top_of(text):
     return Top(wide, high, letters)
 
 
-# All calls refuse a text alike, ahead of whatever else they refuse; 0 if it is taken.
-def text_refusal(text):
-    if len(text) > MOST_BYTES:
+# All calls refuse their texts alike, ahead of whatever else they refuse; 0 if all are taken.
+# A length refused in any text counts before a fault in another.
+def refusal_of(texts):
+    if any([len(text) > MOST_BYTES for text in texts]):
         return TOO_LONG
-    if top_of(text) is None:
+    if any([top_of(text) is None for text in texts]):
         return AT_FAULT
     return 0
 
@@ -223,8 +229,28 @@ def how_kept(top, after):
     return KEPT_PIECING
 
 
+# Quarter by quarter is patch by patch here: the first quarter of a letter is the first of its patch too.
+def named_anew(top):
+    names = {}
+    for letter in top.letters:
+        if letter not in names:
+            names[letter] = ord(NEW_NAMES[len(names)])
+    return Top(top.wide, top.high, [names[letter] for letter in top.letters])
+
+
+def printed_as_seen(how, top):
+    if how == SEEN_NAMED_ANEW:
+        return printed(named_anew(top))
+    return printed(top)
+
+
+# Moved first and seen then: what is named anew and then moved would not be named as it comes.
+def motions_as_seen(how, top):
+    return [printed_as_seen(how, top_moved(m, top)) for m in range(MOTIONS)]
+
+
 def moved(m, text):
-    refusal = text_refusal(text)
+    refusal = refusal_of([text])
     if refusal < 0:
         return [refusal]
     if m >= MOTIONS:
@@ -233,8 +259,33 @@ def moved(m, text):
 
 
 def keeps(text):
-    refusal = text_refusal(text)
+    refusal = refusal_of([text])
     if refusal < 0:
         return [refusal]
     top = top_of(text)
     return [0] + [how_kept(top, top_moved(m, top)) for m in range(MOTIONS)]
+
+
+def form(how, text):
+    refusal = refusal_of([text])
+    if refusal < 0:
+        return [refusal]
+    if how not in (SEEN_AS_IT_IS, SEEN_NAMED_ANEW):
+        return [OUT_OF_RANGE]
+    motions = motions_as_seen(how, top_of(text))
+    least = min(motions)
+    return [0, motions.index(least)] + least
+
+
+# Printed texts are compared, not letters: two tops may have all letters in one order and yet not be as wide.
+def same(how, text, other):
+    refusal = refusal_of([text, other])
+    if refusal < 0:
+        return [refusal]
+    if how not in (SEEN_AS_IT_IS, SEEN_NAMED_ANEW):
+        return [OUT_OF_RANGE]
+    motions = motions_as_seen(how, top_of(text))
+    wanted = printed_as_seen(how, top_of(other))
+    if wanted in motions:
+        return [0, 1, motions.index(wanted)]
+    return [0, 0, 0]

@@ -5,8 +5,10 @@ motion of points: it knows nothing of how quarters are numbered.
 """
 
 import itertools
+import string
 
 MOTIONS = range(8)
+HOWS = (0, 1)
 
 EXPANDED = {"one": (0, 0, 0, 0), "slash": (0, 1, 1, 0), "backslash": (0, 0, 1, 1)}
 
@@ -147,6 +149,36 @@ def expected_keeps(wide, high, letters):
         else:
             hows.append(1)
     return hows
+
+
+def expected_named(wide, high, letters):
+    """The letters named anew, going patch by patch."""
+    places = {quarter: place for place, quarter in enumerate(triangles(wide, high))}
+    patches = sorted(sorted(places[quarter] for quarter in patch)
+                     for patch in expected_patches(wide, high, letters))
+    names = {}
+    for patch in patches:
+        names.setdefault(letters[patch[0]], (string.ascii_lowercase + string.ascii_uppercase)[len(names)])
+    return [names[letter] for letter in letters]
+
+
+def expected_seen(how, wide, high, letters):
+    """The printed texts of all eight motions, each seen how."""
+    texts = []
+    for m in MOTIONS:
+        new_wide, new_high, new_letters = expected_moved(m, wide, high, letters)
+        if how == 1:
+            new_letters = expected_named(new_wide, new_high, new_letters)
+        texts.append(expected_print(new_wide, new_high, new_letters))
+    return texts
+
+
+def relettered(letters, seed):
+    """The letters changed about, each for one, small ones and capitals by turns."""
+    names = [name for pair in zip(reversed(string.ascii_lowercase), string.ascii_uppercase) for name in pair]
+    first = seed % len(names)
+    changes = dict(zip(sorted(set(letters)), names[first:] + names[:first]))
+    return [changes[letter] for letter in letters]
 
 
 def orbits(m, wide, high):

@@ -1,9 +1,9 @@
-"""Which texts are at fault, and that both calls hold them to be so."""
+"""Which texts are at fault, and that all calls hold them to be so."""
 
 import unittest
 
-from clothchoices.tops import keeps, moved
-from helper import data
+from clothchoices.tops import form, keeps, moved, same
+from helper import HOWS, data
 
 
 def row(squares):
@@ -16,11 +16,18 @@ class Texts(unittest.TestCase):
         with self.subTest(text=text):
             self.assertEqual(moved(0, numbers), [-6])
             self.assertEqual(keeps(numbers), [-6])
+            for how in HOWS:
+                self.assertEqual(form(how, numbers), [-6])
+                self.assertEqual(same(how, numbers, data("a\n")), [-6])
+                self.assertEqual(same(how, data("a\n"), numbers), [-6])
 
     def check_block(self, text):
         with self.subTest(text=text):
             self.assertEqual(moved(0, data(text)), [0] + data(text))
             self.assertEqual(len(keeps(data(text))), 9)
+            for how in HOWS:
+                self.assertEqual(len(form(how, data(text))), 2 + len(text))
+                self.assertEqual(same(how, data(text), data(text)), [0, 1, 0])
 
     def test_sizes(self):
         for wide in range(1, 7):
@@ -119,13 +126,22 @@ class Calls(unittest.TestCase):
     TEXTS = ("abba a/a\nc c\\d\n", "a b\nb a\n", "abcd\n", "", "a", "a\n" * 513)
 
     def answers(self, text):
-        return [moved(m, text) for m in (0, 1, 5, 7, 8, 4294967295)] + [keeps(text)]
+        answers = [moved(m, text) for m in (0, 1, 5, 7, 8, 4294967295)] + [keeps(text)]
+        for how in (0, 1, 2, 4294967295):
+            answers += [form(how, text), same(how, text, text)]
+            for other in self.TEXTS:
+                answers += [same(how, text, data(other)), same(how, data(other), text)]
+        return answers
 
     def test_handed_in_is_not_changed(self):
         for text in self.TEXTS:
             numbers = HandedIn(data(text))
             self.answers(numbers)
             self.assertEqual(list(numbers), data(text))
+            for other in self.TEXTS:
+                others = HandedIn(data(other))
+                self.assertEqual(same(1, numbers, others), same(1, data(text), data(other)))
+                self.assertEqual((list(numbers), list(others)), (data(text), data(other)))
 
     def test_nothing_is_kept(self):
         first = [self.answers(data(text)) for text in self.TEXTS]
@@ -156,6 +172,12 @@ class Calls(unittest.TestCase):
     def test_arguments_by_name(self):
         self.assertEqual(moved(m=1, text=data("a b\n")), [0] + data("a\nb\n"))
         self.assertEqual(keeps(text=data("a b\n")), [0, 3, 0, 2, 0, 2, 0, 3, 0])
+        self.assertEqual(form(how=1, text=data("b a\n")), [0, 1] + data("a\nb\n"))
+        self.assertEqual(same(how=0, text=data("b a\n"), other=data("b\na\n")), [0, 1, 1])
+
+    def test_arguments_in_their_order(self):
+        self.assertEqual(form(0, data("b a\n")), [0, 3] + data("a\nb\n"))
+        self.assertEqual(same(0, data("b\na\n"), data("b a\n")), [0, 1, 3])
 
 
 if __name__ == "__main__":
