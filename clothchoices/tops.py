@@ -1,4 +1,9 @@
-"""The calls on tops: a top moved, how each motion keeps it, its least form, and whether two are alike."""
+"""The calls on tops: a top moved, how each motion keeps it, its least form, whether two are alike, and the classes
+of the cloths that may be chosen for it."""
+
+from clothchoices.choices import ALL_CHOICES, MOST_CHOICES, MOST_CLOTHS, PROPER_CHOICES, Piecing
+from clothchoices.choices import SAME_IF_MOVED, SAME_IF_MOVED_AND_CHANGED, SAME_IF_ONE
+from clothchoices.choices import firsts_of_classes, how_many_choices
 
 MOST_BYTES = 1024
 MOST_SQUARES = 6
@@ -11,7 +16,9 @@ BACKSLASH = 92
 
 OUT_OF_RANGE = -1
 TOO_LONG = -2
+NONE_SUCH = -4
 AT_FAULT = -6
+TOO_MANY = -8
 
 KEPT_NOT = 0
 KEPT_PIECING = 1
@@ -229,6 +236,32 @@ def how_kept(top, after):
     return KEPT_PIECING
 
 
+# Pairs of patches, the lesser number first, each pair once.
+def patches_beside(top):
+    patches = patches_of(top)
+    pairs = {}
+    for quarter, patch in enumerate(patches):
+        for other in quarters_beside(top, quarter):
+            if patch < patches[other]:
+                pairs[(patch, patches[other])] = True
+    return list(pairs)
+
+
+# For a motion that keeps the piecing: the numbers themselves are moved, as if they were letters, and where a
+# patch's old number comes to lie its new one stands, as the numbers of all quarters are kept.
+def where_patches_go(m, top):
+    patches = patches_of(top)
+    old = top_moved(m, Top(top.wide, top.high, patches)).letters
+    goes = dict(zip(old, patches))
+    return [goes[patch] for patch in range(len(goes))]
+
+
+def piecing_of(top):
+    kept = [m for m in range(MOTIONS) if how_kept(top, top_moved(m, top)) != KEPT_NOT]
+    motions = [where_patches_go(m, top) for m in kept]
+    return Piecing(len(motions[0]), patches_beside(top), motions)
+
+
 # Quarter by quarter is patch by patch here: the first quarter of a letter is the first of its patch too.
 def named_anew(top):
     names = {}
@@ -247,6 +280,20 @@ def printed_as_seen(how, top):
 # Moved first and seen then: what is named anew and then moved would not be named as it comes.
 def motions_as_seen(how, top):
     return [printed_as_seen(how, top_moved(m, top)) for m in range(MOTIONS)]
+
+
+# The calls on choices refuse alike what they are all asked; 0 if it is taken.
+def refusal_of_choices(which, how, k, text):
+    refusal = refusal_of([text])
+    if refusal < 0:
+        return refusal
+    if which not in (ALL_CHOICES, PROPER_CHOICES) or k < 1 or k > MOST_CLOTHS:
+        return OUT_OF_RANGE
+    if how not in (SAME_IF_ONE, SAME_IF_MOVED, SAME_IF_MOVED_AND_CHANGED):
+        return OUT_OF_RANGE
+    if how_many_choices(k, max(patches_of(top_of(text))) + 1) > MOST_CHOICES:
+        return TOO_MANY
+    return 0
 
 
 def moved(m, text):
@@ -289,3 +336,20 @@ def same(how, text, other):
     if wanted in motions:
         return [0, 1, motions.index(wanted)]
     return [0, 0, 0]
+
+
+def count(which, how, k, text):
+    refusal = refusal_of_choices(which, how, k, text)
+    if refusal < 0:
+        return [refusal]
+    return [0, len(firsts_of_classes(which, how, k, piecing_of(top_of(text))))]
+
+
+def class_of(which, how, k, i, text):
+    refusal = refusal_of_choices(which, how, k, text)
+    if refusal < 0:
+        return [refusal]
+    firsts = firsts_of_classes(which, how, k, piecing_of(top_of(text)))
+    if i >= len(firsts):
+        return [NONE_SUCH]
+    return [0] + firsts[i]

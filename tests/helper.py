@@ -9,6 +9,10 @@ import string
 
 MOTIONS = range(8)
 HOWS = (0, 1)
+WHICHES = (0, 1)
+CHOICE_HOWS = (0, 1, 2)
+CLOTHS = range(1, 9)
+MOST_CHOICES = 4096
 
 EXPANDED = {"one": (0, 0, 0, 0), "slash": (0, 1, 1, 0), "backslash": (0, 0, 1, 1)}
 
@@ -63,12 +67,17 @@ def symmetric_tops():
              "a b a\nc d c\na b a\n", "a b\nc d\n", "a/b a\\b\n", "b a a\na b a\na a b\n",
              "a b c\nd a e\nf g a\n", "a b c\nb a b\nc b a\n")
     for text in texts:
-        rows = text.split("\n")[:-1]
-        letters = []
-        for row in rows:
-            for square in row.split(" "):
-                letters.extend(square_letters(square))
-        yield len(rows[0].split(" ")), len(rows), letters
+        yield top_from(text)
+
+
+def top_from(text):
+    """(wide, high, letters) of a block's text."""
+    rows = text.split("\n")[:-1]
+    letters = []
+    for row in rows:
+        for square in row.split(" "):
+            letters.extend(square_letters(square))
+    return len(rows[0].split(" ")), len(rows), letters
 
 
 def square_letters(square):
@@ -133,6 +142,12 @@ def expected_patches(wide, high, letters):
     return set(patches)
 
 
+def numbered_patches(wide, high, letters):
+    """The patches in the order of their numbers."""
+    places = {quarter: place for place, quarter in enumerate(triangles(wide, high))}
+    return sorted(expected_patches(wide, high, letters), key=lambda patch: min(places[quarter] for quarter in patch))
+
+
 def expected_keeps(wide, high, letters):
     hows = []
     for m in MOTIONS:
@@ -153,12 +168,11 @@ def expected_keeps(wide, high, letters):
 
 def expected_named(wide, high, letters):
     """The letters named anew, going patch by patch."""
-    places = {quarter: place for place, quarter in enumerate(triangles(wide, high))}
-    patches = sorted(sorted(places[quarter] for quarter in patch)
-                     for patch in expected_patches(wide, high, letters))
+    cloth = dict(zip(triangles(wide, high), letters))
     names = {}
-    for patch in patches:
-        names.setdefault(letters[patch[0]], (string.ascii_lowercase + string.ascii_uppercase)[len(names)])
+    for patch in numbered_patches(wide, high, letters):
+        for quarter in patch:
+            names.setdefault(cloth[quarter], (string.ascii_lowercase + string.ascii_uppercase)[len(names)])
     return [names[letter] for letter in letters]
 
 
@@ -226,3 +240,70 @@ def done_after(first, then):
     """The one motion that does motion first and then motion then."""
     turns = first % 4 if then < 4 else -(first % 4)
     return 4 * ((first // 4 + then // 4) % 2) + (turns + then) % 4
+
+
+class Pieces:
+    """The patches of a top by their numbers: which lie beside one another, and where motions that keep them go."""
+
+    def __init__(self, wide, high, letters):
+        self.patches = numbered_patches(wide, high, letters)
+        self.numbers = range(len(self.patches))
+        self.beside = [(one, other) for one, other in itertools.combinations(self.numbers, 2)
+                       if any(len(quarter & near) == 2 for quarter in self.patches[one]
+                              for near in self.patches[other])]
+        self.motions = [[self.patches.index(self.patch_moved(m, wide, high, patch)) for patch in self.patches]
+                        for m, kept in enumerate(expected_keeps(wide, high, letters)) if kept > 0]
+
+    def patch_moved(self, m, wide, high, patch):
+        return frozenset(frozenset(point_moved(m, wide, high, point) for point in quarter) for quarter in patch)
+
+    def takes(self, k):
+        """Whether there are few enough choices."""
+        return k ** len(self.patches) <= MOST_CHOICES
+
+    def is_proper(self, choice):
+        return all(choice[one] != choice[other] for one, other in self.beside)
+
+    def choices(self, which, k):
+        """All of them, in order."""
+        every = itertools.product(range(k), repeat=len(self.patches))
+        return [choice for choice in every if which == 0 or self.is_proper(choice)]
+
+    def moved(self, goes, choice):
+        cloths = {goes[patch]: choice[patch] for patch in self.numbers}
+        return tuple(cloths[patch] for patch in self.numbers)
+
+    def same_as(self, how, k, choice):
+        """All choices that are the same as this one, some of them several times."""
+        if how == 0:
+            return [choice]
+        alike = [self.moved(goes, choice) for goes in self.motions]
+        if how == 1:
+            return alike
+        used = sorted(set(choice))
+        changes = [dict(zip(used, cloths)) for cloths in itertools.permutations(range(k), len(used))]
+        return [tuple(change[cloth] for cloth in other) for other in alike for change in changes]
+
+    def first_by_choice(self, which, how, k):
+        """For each choice the first of its class, found by going through all choices in order."""
+        firsts = {}
+        for choice in self.choices(which, k):
+            if choice not in firsts:
+                firsts.update((other, choice) for other in self.same_as(how, k, choice))
+        return firsts
+
+    def classes(self, which, how, k):
+        """The first choice of each class, in order."""
+        firsts = self.first_by_choice(which, how, k)
+        return [list(choice) for choice in self.choices(which, k) if firsts[choice] == choice]
+
+
+def choice_tops():
+    """Tops of few patches: kept by all eight motions, by a few, by motion 0 alone, by their letters or not."""
+    texts = ("a a\na a\n", "a a a\n", "a b\na a\n", "a a b\n", "a b\nc c\n", "a b c\nd e a\n", "a b a\na b c\n",
+             "a b b e e d\na b a c e d\na a a c c c\n", "a b/c\nd a\n", "abcb adcb\n",
+             "a/b c\na a\n", "a b c\n", "a b a b a\n", "a a a\na b a\na a a\n", "abbb cccb\n", "a b\nc d\ne f\n")
+    yield from symmetric_tops()
+    for text in texts:
+        yield top_from(text)
+    yield from [top for top in pieced_tops() if 1 < len(expected_patches(*top)) <= 6][::8]

@@ -79,6 +79,38 @@ class Language(unittest.TestCase):
                 if isinstance(node, ast.arg):
                     self.assertFalse(hasattr(builtins, node.arg), where)
 
+    def test_imports(self):
+        trees = {"clothchoices." + path.stem: tree for path, tree in self.trees()}
+        done = []
+        while len(done) < len(trees):
+            # A file is done once all that it draws from are: were two to draw from one another, neither would be.
+            ready = [name for name, tree in trees.items() if name not in done and
+                     all(node.module in done for node in tree.body if isinstance(node, ast.ImportFrom))]
+            self.assertTrue(ready, done)
+            done += ready
+        for name, tree in trees.items():
+            rows = [node for node in tree.body if isinstance(node, ast.ImportFrom)]
+            drawn = [(node.module, entry) for node in rows for entry in node.names]
+            for module, entry in drawn:
+                self.assertIn(entry.name, bound_at_top(trees[module]), (name, module))
+                self.assertIsNone(entry.asname)
+            given = [entry.name for module, entry in drawn]
+            given += [node.name for node in tree.body if isinstance(node, ast.ClassDef)]
+            for node in ast.walk(tree):
+                local = node.arg if isinstance(node, ast.arg) else stored_name(node)
+                self.assertNotIn(local, given, (name, getattr(node, "lineno", 0)))
+            top = bound_at_top(tree)
+            self.assertEqual(len(top), len(set(top)), name)
+
+
+def stored_name(node):
+    return node.id if isinstance(node, ast.Name) and isinstance(node.ctx, ast.Store) else None
+
+
+def bound_at_top(tree):
+    names = [node.name for node in tree.body if isinstance(node, (ast.FunctionDef, ast.ClassDef))]
+    return names + [target.id for node in tree.body if isinstance(node, ast.Assign) for target in node.targets]
+
 
 if __name__ == "__main__":
     unittest.main()

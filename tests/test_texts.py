@@ -2,8 +2,8 @@
 
 import unittest
 
-from clothchoices.tops import form, keeps, moved, same
-from helper import HOWS, data
+from clothchoices.tops import class_of, count, form, keeps, moved, same
+from helper import CHOICE_HOWS, HOWS, WHICHES, data
 
 
 def row(squares):
@@ -20,6 +20,9 @@ class Texts(unittest.TestCase):
                 self.assertEqual(form(how, numbers), [-6])
                 self.assertEqual(same(how, numbers, data("a\n")), [-6])
                 self.assertEqual(same(how, data("a\n"), numbers), [-6])
+            for which in WHICHES:
+                self.assertEqual(count(which, 2, 1, numbers), [-6])
+                self.assertEqual(class_of(which, 0, 1, 0, numbers), [-6])
 
     def check_block(self, text):
         with self.subTest(text=text):
@@ -28,6 +31,9 @@ class Texts(unittest.TestCase):
             for how in HOWS:
                 self.assertEqual(len(form(how, data(text))), 2 + len(text))
                 self.assertEqual(same(how, data(text), data(text)), [0, 1, 0])
+            for how in CHOICE_HOWS:
+                self.assertEqual(count(0, how, 1, data(text)), [0, 1])
+                self.assertEqual(sum(class_of(0, how, 1, 0, data(text))), 0)
 
     def test_sizes(self):
         for wide in range(1, 7):
@@ -110,6 +116,8 @@ class Texts(unittest.TestCase):
                 longer = numbers + [10] * more
                 self.assertEqual(moved(0, longer), [-2])
                 self.assertEqual(keeps(longer), [-2])
+                self.assertEqual(count(0, 0, 1, longer), [-2])
+                self.assertEqual(class_of(0, 0, 1, 0, longer), [-2])
 
 
 class HandedIn(list):
@@ -131,6 +139,14 @@ class Calls(unittest.TestCase):
             answers += [form(how, text), same(how, text, text)]
             for other in self.TEXTS:
                 answers += [same(how, text, data(other)), same(how, data(other), text)]
+        return answers + self.answers_on_choices(text)
+
+    def answers_on_choices(self, text):
+        answers = []
+        for which, how, k in ((0, 0, 2), (0, 1, 2), (0, 2, 3), (1, 0, 3), (1, 1, 3), (1, 2, 2), (0, 0, 1), (0, 0, 8),
+                              (2, 0, 2), (0, 3, 2), (0, 0, 0), (0, 0, 9)):
+            answers.append(count(which, how, k, text))
+            answers += [class_of(which, how, k, i, text) for i in (0, 1, 5, 4294967295)]
         return answers
 
     def test_handed_in_is_not_changed(self):
@@ -174,10 +190,15 @@ class Calls(unittest.TestCase):
         self.assertEqual(keeps(text=data("a b\n")), [0, 3, 0, 2, 0, 2, 0, 3, 0])
         self.assertEqual(form(how=1, text=data("b a\n")), [0, 1] + data("a\nb\n"))
         self.assertEqual(same(how=0, text=data("b a\n"), other=data("b\na\n")), [0, 1, 1])
+        self.assertEqual(count(which=1, how=0, k=3, text=data("a b\n")), [0, 6])
+        self.assertEqual(class_of(which=1, how=0, k=3, i=2, text=data("a b\n")), [0, 1, 0])
 
     def test_arguments_in_their_order(self):
         self.assertEqual(form(0, data("b a\n")), [0, 3] + data("a\nb\n"))
         self.assertEqual(same(0, data("b\na\n"), data("b a\n")), [0, 1, 3])
+        self.assertEqual(count(0, 1, 3, data("a b\n")), [0, 6])
+        self.assertEqual(count(1, 0, 2, data("a b\n")), [0, 2])
+        self.assertEqual(class_of(0, 1, 2, 2, data("a b\n")), [0, 1, 1])
 
 
 if __name__ == "__main__":
