@@ -46,6 +46,12 @@ def is_of_which(which, piecing, choice):
     return which == ALL_CHOICES or is_proper(piecing, choice)
 
 
+def is_choice(which, k, piecing, choice):
+    if len(choice) != piecing.patches or any([cloth >= k for cloth in choice]):
+        return False
+    return is_of_which(which, piecing, choice)
+
+
 def choice_moved(goes, choice):
     after = list(choice)
     for patch, cloth in enumerate(choice):

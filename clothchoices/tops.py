@@ -3,7 +3,7 @@ of the cloths that may be chosen for it."""
 
 from clothchoices.choices import ALL_CHOICES, MOST_CHOICES, MOST_CLOTHS, PROPER_CHOICES, Piecing
 from clothchoices.choices import SAME_IF_MOVED, SAME_IF_MOVED_AND_CHANGED, SAME_IF_ONE
-from clothchoices.choices import firsts_of_classes, how_many_choices
+from clothchoices.choices import first_of_its_class, firsts_of_classes, how_many_choices, is_choice
 
 MOST_BYTES = 1024
 MOST_SQUARES = 6
@@ -42,15 +42,15 @@ class Top:
 
 
 # Parts may be empty, one more than there are marks: so a mark too many is seen as an empty part.
-def split_at(mark, numbers):
+def split_at(mark, text):
     parts = []
     part = []
-    for number in numbers:
-        if number == mark:
+    for byte in text:
+        if byte == mark:
             parts.append(part)
             part = []
         else:
-            part.append(number)
+            part.append(byte)
     parts.append(part)
     return parts
 
@@ -353,3 +353,14 @@ def class_of(which, how, k, i, text):
     if i >= len(firsts):
         return [NONE_SUCH]
     return [0] + firsts[i]
+
+
+def number(which, how, k, text, choice):
+    refusal = refusal_of_choices(which, how, k, text)
+    if refusal < 0:
+        return [refusal]
+    piecing = piecing_of(top_of(text))
+    if not is_choice(which, k, piecing, choice):
+        return [NONE_SUCH]
+    firsts = firsts_of_classes(which, how, k, piecing)
+    return [0, firsts.index(first_of_its_class(how, piecing, choice))]

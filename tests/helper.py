@@ -13,6 +13,12 @@ WHICHES = (0, 1)
 CHOICE_HOWS = (0, 1, 2)
 CLOTHS = range(1, 9)
 MOST_CHOICES = 4096
+LARGEST = 4294967295
+
+# Tops of twelve patches, of thirteen, and of as many as there may be.
+TWELVE = "a b c d e f\ng h i j k l\n"
+THIRTEEN = "a b c d e f\ng h i j k l/m\n"
+MANY = (" ".join(["abcd"] * 6) + "\n") * 6
 
 EXPANDED = {"one": (0, 0, 0, 0), "slash": (0, 1, 1, 0), "backslash": (0, 0, 1, 1)}
 

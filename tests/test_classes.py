@@ -3,15 +3,8 @@
 import unittest
 
 from clothchoices.tops import class_of, count, moved, same
-from helper import CHOICE_HOWS, CLOTHS, WHICHES, Pieces, choice_tops, data, expected_moved, expected_patches
-from helper import relettered, text_of, top_from
-
-LARGEST = 4294967295
-
-# Tops of as many patches as are asked for; a row of whole squares has one for each, a cut square one more.
-TWELVE = "a b c d e f\ng h i j k l\n"
-THIRTEEN = "a b c d e f\ng h i j k l/m\n"
-MANY = (" ".join(["abcd"] * 6) + "\n") * 6
+from helper import CHOICE_HOWS, CLOTHS, LARGEST, MANY, THIRTEEN, TWELVE, WHICHES, Pieces, choice_tops, data
+from helper import expected_moved, expected_patches, relettered, text_of, top_from
 
 
 def strip(patches):
@@ -225,45 +218,6 @@ class TheBound(unittest.TestCase):
         # Two proper choices there are, and yet the bound is for all.
         self.assertEqual(count(1, 2, 2, data(THIRTEEN)), [-8])
         self.assertEqual(class_of(1, 2, 2, 0, data(THIRTEEN)), [-8])
-
-
-class Refused(unittest.TestCase):
-    WRONG = [(2, 0, 2), (3, 0, 2), (LARGEST, 0, 2), (0, 3, 2), (1, 4, 2), (0, LARGEST, 2), (0, 0, 0), (1, 2, 0),
-             (0, 0, 9), (1, 1, 10), (0, 2, LARGEST), (2, 3, 0), (2, 3, 9), (LARGEST, LARGEST, LARGEST)]
-
-    def check(self, which, how, k, text, wanted):
-        self.assertEqual(count(which, how, k, text), [wanted], (which, how, k))
-        for i in (0, 1, LARGEST):
-            self.assertEqual(class_of(which, how, k, i, text), [wanted], (which, how, k, i))
-
-    def test_out_of_range(self):
-        for which, how, k in self.WRONG:
-            for text in ("a\n", "a b\n", TWELVE):
-                self.check(which, how, k, data(text), -1)
-
-    def test_the_edges_are_taken(self):
-        for which in WHICHES:
-            for how in CHOICE_HOWS:
-                for k in (1, 8):
-                    self.assertEqual(count(which, how, k, data("a\n")), [0, 1 if how == 2 else k])
-
-    def test_out_of_range_before_too_many(self):
-        for which, how, k in self.WRONG:
-            self.check(which, how, k, data(MANY), -1)
-
-    def test_too_many_before_no_such_class(self):
-        for i in (0, 4096, 8192, LARGEST):
-            self.assertEqual(class_of(1, 1, 2, i, data(THIRTEEN)), [-8])
-
-    def test_fault_before_range(self):
-        for which, how, k in self.WRONG + [(0, 0, 2), (1, 2, 8)]:
-            for text in ([], data("a"), data("a\n") * 512, data(MANY + "\n")):
-                self.check(which, how, k, text, -6)
-
-    def test_length_before_fault_and_range(self):
-        for which, how, k in self.WRONG + [(0, 0, 2), (1, 2, 8)]:
-            for text in ([0] * 1025, data("a\n") * 513, [97] * 1100):
-                self.check(which, how, k, text, -2)
 
 
 if __name__ == "__main__":

@@ -76,6 +76,13 @@ class OneAfterAnother(unittest.TestCase):
                     twice = moved(then, moved(first, data(text))[1:])
                     self.assertEqual(twice, moved(done_after(first, then), data(text)), (text, first, then))
 
+    def test_it_is_the_same_one_for_all_tops(self):
+        for top in list(sample_tops())[::7] + list(symmetric_tops()):
+            once = [moved(m, data(text_of(*top))) for m in MOTIONS]
+            for first in MOTIONS:
+                for then in MOTIONS:
+                    self.assertEqual(moved(then, once[first][1:]), once[done_after(first, then)], (top, first, then))
+
     def test_eight_motions_differ(self):
         answers = [told(moved(m, data(self.TEXTS[0]))) for m in MOTIONS]
         self.assertEqual(len(set(answers)), 8)
